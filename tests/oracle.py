@@ -1,0 +1,104 @@
+"""What the document says, written out as slowly and plainly as its words."""
+
+import itertools
+
+STEPS = (1, 2, 3)
+WORDS = ("up", "down")
+# The greatest number of thirty figures.
+BIG = 10 ** 30 - 1
+
+
+def short_rows(most, numbers):
+    """All rows of at most so many of the numbers."""
+    for many in range(most + 1):
+        for row in itertools.product(numbers, repeat=many):
+            yield list(row)
+
+
+def all_places(count):
+    """All lists of places of a row of so many numbers, the shorter ones ahead, then in order."""
+    for many in range(count + 1):
+        for places in itertools.combinations(range(count), many):
+            yield list(places)
+
+
+def wavy(row, step, places):
+    """Whether places (which they are) are wavy."""
+    numbers = [row[place] for place in places]
+    for k in range(1, len(numbers)):
+        if abs(numbers[k] - numbers[k - 1]) < step:
+            return False
+    for k in range(1, len(numbers) - 1):
+        left, middle, right = numbers[k - 1:k + 2]
+        peak = middle > left and middle > right
+        dip = middle < left and middle < right
+        if not peak and not dip:
+            return False
+    return True
+
+
+def first_of_longest(row, step):
+    """The first of the longest wavy places, found among all lists of places."""
+    told = []
+    for places in all_places(len(row)):
+        if len(places) > len(told) and wavy(row, step, places):
+            told = places
+    return told
+
+
+def pairs(numbers):
+    """Each number with each one behind it."""
+    return itertools.combinations(numbers, 2)
+
+
+def flat(numbers, step):
+    return not any(abs(ahead - behind) >= step for ahead, behind in pairs(numbers))
+
+
+def of_kind(numbers, step, kind):
+    if kind == "up":
+        return not any(ahead - behind >= step for ahead, behind in pairs(numbers))
+    return not any(behind - ahead >= step for ahead, behind in pairs(numbers))
+
+
+def other(kind):
+    return "down" if kind == "up" else "up"
+
+
+def right_paper(row, step, word, cuts):
+    """Whether (word, cuts) is right; word is up or down, cuts are cuts."""
+    bounds = [0] + cuts + [len(row)]
+    pieces = [row[bounds[k]:bounds[k + 1]] for k in range(len(bounds) - 1)]
+    if not flat(pieces[0], step):
+        return False
+    if len(pieces) == 1:
+        return True
+    kind = word
+    for piece in [pieces[0] + pieces[1]] + pieces[2:]:
+        if not of_kind(piece, step, kind):
+            return False
+        kind = other(kind)
+    return True
+
+
+def bound(row, cuts):
+    return len(cuts) + 1 if row else 0
+
+
+def due_paper(row, step):
+    """The paper that point 10 tells, gone through number by number."""
+    word, kind, cuts, start = "up", None, [], 0
+    for place, number in enumerate(row):
+        piece = row[start:place]
+        lifted = any(number - ahead >= step for ahead in piece)
+        lowered = any(ahead - number >= step for ahead in piece)
+        if kind is None and (lifted or lowered):
+            word = kind = "up" if lifted else "down"
+        elif kind == "up" and lowered or kind == "down" and lifted:
+            kind = other(kind)
+        else:
+            continue
+        cuts.append(place)
+        # The first two pieces are one of their kind: only the third begins anew.
+        start = 0 if len(cuts) == 1 else place
+    return (word, cuts)

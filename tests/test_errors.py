@@ -1,0 +1,66 @@
+import unittest
+
+from wavyrow import errors
+from wavyrow.errors import NoPlace, NoStep, WaveError
+from wavyrow.longest import how_long, longest, pieces_of, pieces_show
+from wavyrow.waves import are_wavy, how_many_turns
+
+NAMES = ("NoStep", "NoPlace", "NoWeights", "NoNumber", "NoText", "NoForm", "NoneYet")
+
+
+class Classes(unittest.TestCase):
+    """Point 3."""
+
+    def test_wave_error_is_a_value_error(self):
+        self.assertTrue(issubclass(WaveError, ValueError))
+
+    def test_each_stands_under_wave_error(self):
+        for name in NAMES:
+            with self.subTest(name):
+                named = getattr(errors, name)
+                self.assertEqual(named.__name__, name)
+                self.assertTrue(issubclass(named, WaveError))
+                self.assertTrue(issubclass(named, ValueError))
+                self.assertIsNot(named, WaveError)
+
+    def test_none_stands_under_another(self):
+        for name in NAMES:
+            for another in NAMES:
+                if name != another:
+                    with self.subTest(f"{name} and {another}"):
+                        self.assertFalse(issubclass(getattr(errors, name), getattr(errors, another)))
+
+    def test_caught_as_any_refusal(self):
+        with self.assertRaises(WaveError):
+            longest([1, 2], 0)
+        with self.assertRaises(ValueError):
+            how_many_turns([1, 2], [2])
+
+
+class RefusedChangesNothing(unittest.TestCase):
+    """Point 3: what is refused changes nothing."""
+
+    def test_row_and_places(self):
+        row, places, cuts = [3, 1, 2], [0, 1, 2], [1, 2]
+        paper = ("down", cuts)
+        for call in (
+            lambda: are_wavy(row, 0, places),
+            lambda: longest(row, 0),
+            lambda: how_long(row, 0),
+            lambda: pieces_show(row, 0, paper),
+            lambda: pieces_of(row, 0),
+        ):
+            with self.assertRaises(NoStep):
+                call()
+        self.assertEqual((row, places, paper), ([3, 1, 2], [0, 1, 2], ("down", [1, 2])))
+        self.assertEqual(longest(row, 1), [0, 1, 2])
+
+    def test_what_are_no_places(self):
+        row, places = [3, 1, 2], [2, 1, 5]
+        with self.assertRaises(NoPlace):
+            how_many_turns(row, places)
+        self.assertEqual((row, places), ([3, 1, 2], [2, 1, 5]))
+
+
+if __name__ == "__main__":
+    unittest.main()

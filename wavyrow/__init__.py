@@ -1,0 +1,1 @@
+"""Longest rows that go up and down by turns."""

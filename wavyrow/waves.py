@@ -1,0 +1,48 @@
+"""Wavy places of a row, and the turns of places."""
+
+from wavyrow.errors import NoPlace, NoStep
+
+
+def refuse_step(step):
+    """Refuse a least step below 1."""
+    if step < 1:
+        raise NoStep("a least step is 1 or more")
+
+
+def are_places(row, places):
+    """Whether places rise, from 0 on and below how many numbers there are."""
+    least = 0
+    for place in places:
+        if place < least or place >= len(row):
+            return False
+        least = place + 1
+    return True
+
+
+def turns_of(numbers):
+    """How many of the numbers are above both neighbours, or below both."""
+    many = 0
+    for left, middle, right in zip(numbers, numbers[1:], numbers[2:]):
+        if max(left, right) < middle or middle < min(left, right):
+            many += 1
+    return many
+
+
+def are_wavy(row, step, places):
+    """Whether places are places of the row, and wavy by the least step."""
+    refuse_step(step)
+    if not are_places(row, places):
+        return False
+    numbers = [row[place] for place in places]
+    for left, right in zip(numbers, numbers[1:]):
+        if abs(right - left) < step:
+            return False
+    # Those amid the places are all but two, and each of them has to turn.
+    return turns_of(numbers) == max(0, len(numbers) - 2)
+
+
+def how_many_turns(row, places):
+    """How many turns the places have; refused where they are no places."""
+    if not are_places(row, places):
+        raise NoPlace("places rise, from 0 on and below how many numbers there are")
+    return turns_of([row[place] for place in places])
