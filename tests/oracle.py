@@ -102,3 +102,77 @@ def due_paper(row, step):
         # The first two pieces are one of their kind: only the third begins anew.
         start = 0 if len(cuts) == 1 else place
     return (word, cuts)
+
+
+def all_wavy(row, step):
+    """All lists of wavy places, the shorter ones ahead, then in order."""
+    return [places for places in all_places(len(row)) if wavy(row, step, places)]
+
+
+def by_length(row, step):
+    """All lists of wavy places of 0 places, of 1, and so on up to the longest, each in order."""
+    told = [[]]
+    for places in all_wavy(row, step):
+        if len(places) == len(told):
+            told.append([])
+        told[len(places)].append(places)
+    return told
+
+
+def first_of_heaviest(row, step, weights):
+    """(weight, places) of the first heaviest, found among all lists of places."""
+    told = (0, [])
+    for places in all_wavy(row, step):
+        weight = sum(weights[place] for place in places)
+        # The fewer places go first in all_wavy, then those that come first in order.
+        if weight > told[0]:
+            told = (weight, places)
+    return told
+
+
+def right_weights(row, step, weights, paper):
+    """Whether the list of tuples is a right paper of weights; row and weights are of one length."""
+    if len(paper) != len(row):
+        return False
+    for k in range(len(row)):
+        up, down = paper[k]
+        if up < weights[k] or down < weights[k]:
+            return False
+        for j in range(k):
+            if row[k] >= row[j] + step and up < weights[k] + paper[j][1]:
+                return False
+            if row[k] <= row[j] - step and down < weights[k] + paper[j][0]:
+                return False
+    return True
+
+
+def weights_bound(paper):
+    return max([number for pair in paper for number in pair], default=0)
+
+
+def turning(row, places):
+    """How many turns the places have."""
+    many = 0
+    for k in range(1, len(places) - 1):
+        left, middle, right = [row[place] for place in places[k - 1:k + 2]]
+        if middle > left and middle > right or middle < left and middle < right:
+            many += 1
+    return many
+
+
+def all_stepped(row, step):
+    """(turns, places) of all stepped places, the shorter ones ahead, then in order."""
+    told = []
+    for places in all_places(len(row)):
+        if all(abs(row[right] - row[left]) >= step for left, right in zip(places, places[1:])):
+            told.append((turning(row, places), places))
+    return told
+
+
+def first_turning(stepped, turns):
+    """The first of the longest stepped places with at most so many turns."""
+    told = []
+    for many, places in stepped:
+        if many <= turns and len(places) > len(told):
+            told = places
+    return told

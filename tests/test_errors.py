@@ -1,8 +1,10 @@
 import unittest
 
 from wavyrow import errors
-from wavyrow.errors import NoPlace, NoStep, WaveError
+from wavyrow.counted import counts, first_longest, how_many_longest, so_manieth
+from wavyrow.errors import NoNumber, NoPlace, NoStep, WaveError
 from wavyrow.longest import how_long, longest, pieces_of, pieces_show
+from wavyrow.turns import fewest_turns, kept_by_turns, longest_turning
 from wavyrow.waves import are_wavy, how_many_turns
 
 NAMES = ("NoStep", "NoPlace", "NoWeights", "NoNumber", "NoText", "NoForm", "NoneYet")
@@ -49,11 +51,27 @@ class RefusedChangesNothing(unittest.TestCase):
             lambda: how_long(row, 0),
             lambda: pieces_show(row, 0, paper),
             lambda: pieces_of(row, 0),
+            lambda: counts(row, 0),
+            lambda: how_many_longest(row, 0),
+            lambda: kept_by_turns(row, 0),
         ):
             with self.assertRaises(NoStep):
                 call()
         self.assertEqual((row, places, paper), ([3, 1, 2], [0, 1, 2], ("down", [1, 2])))
         self.assertEqual(longest(row, 1), [0, 1, 2])
+
+    def test_numbers(self):
+        row = [3, 1, 2]
+        for call in (
+            lambda: first_longest(row, 1, 101),
+            lambda: so_manieth(row, 1, 1, 0),
+            lambda: longest_turning(row, 1, -1),
+            lambda: fewest_turns(row, 1, -1),
+        ):
+            with self.assertRaises(NoNumber):
+                call()
+        self.assertEqual(row, [3, 1, 2])
+        self.assertEqual(first_longest(row, 1, 100), [[0, 1, 2]])
 
     def test_what_are_no_places(self):
         row, places = [3, 1, 2], [2, 1, 5]

@@ -1,6 +1,7 @@
 """The rules of the language that can be seen by counting and by looking for words."""
 
 import ast
+import builtins
 import os
 import re
 import unittest
@@ -48,6 +49,30 @@ class Language(unittest.TestCase):
                 if isinstance(node, ast.Constant):
                     self.assertNotIsInstance(node.value, (float, complex), where)
                     self.assertNotIn("%", str(node.value), where)
+
+    def test_local_names(self):
+        for name, text in files():
+            tree = ast.parse(text)
+            taken = set(dir(builtins))
+            for node in tree.body:
+                if isinstance(node, ast.ClassDef):
+                    taken.add(node.name)
+                elif isinstance(node, ast.ImportFrom):
+                    taken.update(alias.asname or alias.name for alias in node.names)
+            bound = [node.arg for node in ast.walk(tree) if isinstance(node, ast.arg)]
+            bound += [node.id for node in ast.walk(tree) if isinstance(node, ast.Name)
+                      and isinstance(node.ctx, ast.Store)]
+            self.assertEqual([each for each in bound if each in taken or each.startswith("_")], [], name)
+
+    def test_methods_and_attributes(self):
+        methods, attributes = set(), set()
+        for name, text in files():
+            for node in ast.walk(ast.parse(text)):
+                if isinstance(node, ast.ClassDef):
+                    methods.update(each.name for each in node.body if isinstance(each, ast.FunctionDef))
+                if isinstance(node, ast.Attribute) and isinstance(node.ctx, ast.Store):
+                    attributes.add(node.attr)
+        self.assertEqual(methods & attributes, set())
 
 
 if __name__ == "__main__":

@@ -9,6 +9,19 @@ def refuse_step(step):
         raise NoStep("a least step is 1 or more")
 
 
+def later_steps(row, step):
+    """For each place the later ones whose numbers differ by the least step.
+
+    Two lists: for each place those above its number, and those below it.
+    """
+    above = []
+    below = []
+    for place, number in enumerate(row):
+        above.append([later for later in range(place + 1, len(row)) if row[later] - number >= step])
+        below.append([later for later in range(place + 1, len(row)) if number - row[later] >= step])
+    return above, below
+
+
 def are_places(row, places):
     """Whether places rise, from 0 on and below how many numbers there are."""
     least = 0
