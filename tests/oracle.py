@@ -176,3 +176,64 @@ def first_turning(stepped, turns):
         if many <= turns and len(places) > len(told):
             told = places
     return told
+
+
+def wavy_about(row, step, places):
+    """Whether places (which they are) are wavy round about."""
+    if len(places) % 2 == 1:
+        return False
+    numbers = [row[place] for place in places]
+    rises = [numbers[(k + 1) % len(numbers)] - numbers[k] for k in range(len(numbers))]
+    if any(abs(rise) < step for rise in rises):
+        return False
+    return all((rises[k] > 0) != (rises[k - 1] > 0) for k in range(len(rises)))
+
+
+def rounds_by_length(row, step):
+    """All lists wavy round about of 0 places, of 2, of 4 and so on up to the most, each in order."""
+    told = []
+    for places in all_places(len(row)):
+        if wavy_about(row, step, places):
+            if len(places) == 2 * len(told):
+                told.append([])
+            told[len(places) // 2].append(places)
+    return told
+
+
+def wholly_wavy_rows(count, step, numbers):
+    """All rows of so many of the numbers that are wholly wavy."""
+    return [list(row) for row in itertools.product(numbers, repeat=count) if wavy(row, step, range(count))]
+
+
+def begins(row, word):
+    """Whether the row's first step goes as the word tells; of one number, or none, it does."""
+    return len(row) < 2 or (row[1] > row[0]) == (word == "up")
+
+
+def changed_into(row, made):
+    """(many, places): how many are changed where the row is made into the other one, and which stay."""
+    stay = [place for place in range(len(row)) if row[place] == made[place]]
+    return (len(row) - len(stay), stay)
+
+
+def may_stay(row, step, word, stay):
+    """Whether all others can be changed so that the row is wholly wavy and begins as the word tells.
+
+    Others can be made as far off as need be, so only neighbours that both stay are looked at.
+    """
+    for place in stay:
+        if place + 1 in stay:
+            rise = row[place + 1] - row[place]
+            if (rise if (place % 2 == 0) == (word == "up") else -rise) < step:
+                return False
+    return True
+
+
+def fewest_by_choice(row, step, word):
+    """(many, places) of the fewest changed, found among all choices of places that stay."""
+    told = (len(row), [])
+    for stay in all_places(len(row)):
+        # The longer ones come later, and of equally long ones the first comes first.
+        if len(stay) > len(told[1]) and may_stay(row, step, word, stay):
+            told = (len(row) - len(stay), stay)
+    return told

@@ -2,8 +2,12 @@ import unittest
 
 from wavyrow import errors
 from wavyrow.counted import counts, first_longest, how_many_longest, so_manieth
-from wavyrow.errors import NoNumber, NoPlace, NoStep, WaveError
+from wavyrow.desk import Desk
+from wavyrow.errors import NoForm, NoneYet, NoNumber, NoPlace, NoStep, NoText, WaveError
 from wavyrow.longest import how_long, longest, pieces_of, pieces_show
+from wavyrow.made import fewest_beginning, fewest_changed, made_wavy
+from wavyrow.rings import begun_at, counts_round, longest_round, wavy_round
+from wavyrow.texts import read_row
 from wavyrow.turns import fewest_turns, kept_by_turns, longest_turning
 from wavyrow.waves import are_wavy, how_many_turns
 
@@ -54,6 +58,12 @@ class RefusedChangesNothing(unittest.TestCase):
             lambda: counts(row, 0),
             lambda: how_many_longest(row, 0),
             lambda: kept_by_turns(row, 0),
+            lambda: wavy_round(row, 0, places),
+            lambda: longest_round(row, 0),
+            lambda: counts_round(row, 0),
+            lambda: fewest_changed(row, 0),
+            lambda: made_wavy(row, 0),
+            lambda: fewest_beginning(row, 0, "up"),
         ):
             with self.assertRaises(NoStep):
                 call()
@@ -77,7 +87,32 @@ class RefusedChangesNothing(unittest.TestCase):
         row, places = [3, 1, 2], [2, 1, 5]
         with self.assertRaises(NoPlace):
             how_many_turns(row, places)
+        with self.assertRaises(NoPlace):
+            begun_at(row, 3)
         self.assertEqual((row, places), ([3, 1, 2], [2, 1, 5]))
+
+    def test_words(self):
+        row = [3, 1, 2]
+        with self.assertRaises(NoText):
+            fewest_beginning(row, 0, "Up")
+        self.assertEqual(row, [3, 1, 2])
+
+
+class JustItsClass(unittest.TestCase):
+    """Point 3: each refusal is of just the class that is named."""
+
+    def test_texts_and_desk(self):
+        for call, due in (
+            (lambda: read_row("1\n"), NoText),
+            (lambda: fewest_beginning([1], 0, "left"), NoText),
+            (lambda: Desk().say("Row"), NoForm),
+            (lambda: Desk().say("row"), NoneYet),
+            (lambda: Desk().say("step 0"), NoStep),
+            (lambda: begun_at([], 0), NoPlace),
+        ):
+            with self.assertRaises(WaveError) as caught:
+                call()
+            self.assertIs(type(caught.exception), due)
 
 
 if __name__ == "__main__":

@@ -41,17 +41,19 @@ def turns_of(numbers):
     return many
 
 
-def are_wavy(row, step, places):
-    """Whether places are places of the row, and wavy by the least step."""
-    refuse_step(step)
-    if not are_places(row, places):
-        return False
-    numbers = [row[place] for place in places]
+def go_by_turns(numbers, step):
+    """Whether the numbers, all of them, go up and down by turns by the least step."""
     for left, right in zip(numbers, numbers[1:]):
         if abs(right - left) < step:
             return False
-    # Those amid the places are all but two, and each of them has to turn.
+    # Those amid the numbers are all but two, and each of them has to turn.
     return turns_of(numbers) == max(0, len(numbers) - 2)
+
+
+def are_wavy(row, step, places):
+    """Whether places are places of the row, and wavy by the least step."""
+    refuse_step(step)
+    return are_places(row, places) and go_by_turns([row[place] for place in places], step)
 
 
 def how_many_turns(row, places):
